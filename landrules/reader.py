@@ -38,7 +38,7 @@ class Reader:
         return self.read_run(LETTERS, MOST_LETTERS)
 
     # No choice may begin another one. All are followed at once, for the fault is
-    # where the last of them ends to be possible.
+    # where the last of them stops being possible.
     def read_choice(self, choices):
         start = self.place
         possible = choices

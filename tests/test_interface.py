@@ -49,6 +49,8 @@ class NoRules(unittest.TestCase):
     def test_all_calls_but_take(self):
         calls = [count(0), plain("a"), ways("a"), way(0, "a"), part(1, 2, "a"), printed(0, "town a\n")]
         self.assertEqual(ask(*calls), [[-5]] * 6)
+        for call in calls:
+            self.assertEqual(ask(call, take(TOWN), count(4)), [[-5], [0], [1]])
 
     def test_before_any_other_refusal(self):
         calls = [count(5), plain(""), ways([0]), ways([65] * 513), ways("a " * 129), way(0, [0]), part(0, 9, [])]

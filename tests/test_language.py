@@ -204,7 +204,6 @@ class Language(unittest.TestCase):
     def test_methods_and_values(self):
         methods = set()
         values = set()
-        called = {id(node.func) for name, node in nodes() if isinstance(node, ast.Call)}
         for name, node in nodes():
             if isinstance(node, ast.ClassDef):
                 own = [inner.name for inner in node.body if isinstance(inner, ast.FunctionDef)]

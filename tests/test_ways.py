@@ -3,7 +3,9 @@ import random
 import re
 import unittest
 
+from landrules.fitting import words_fit
 from landrules.land import answer_of_ways
+from landrules.rules import Item
 from tests.helper import ask, take, ways, ways_by
 
 KINDS = ["person", "house", "street", "number", "district", "town", "code", "box", "land"]
@@ -75,6 +77,14 @@ class Items(Cases):
             for address in ("a " * 9, "1 " * 9, "a\nb", "a b\nc"):
                 self.counts("form " + kind + "\n", address, 0)
             self.counts("form " + kind + "\n", "0 12 x9 " + "z" * 32, 1)
+
+    def test_how_many_words_may_fit(self):
+        for kind, most in enumerate((8, 8, 8, 2, 8, 8, 4, 1, 8, 1)):
+            item = Item(kind, "1", False)
+            self.assertFalse(words_fit(item, [], ["9"]))
+            self.assertTrue(words_fit(item, ["1"], ["9"]))
+            self.assertTrue(words_fit(item, ["1", "a", "a", "a", "a", "a", "a", "a"][:most], ["9", "9aaa"]))
+            self.assertFalse(words_fit(item, ["1", "a", "a", "a", "a", "a", "a", "a", "a"][:most + 1], ["9aaaa"]))
 
     def test_a_word_of_its_own(self):
         self.fit("=no", ["no", "NO", "n'o", chr(0x2116), "\n(no)\n"])
