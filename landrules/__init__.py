@@ -1,1 +1,1 @@
-"""Rules of addresses: a land's rules, and the ways to read an address by them."""
+"""Rules of addresses: a land's rules, the ways to read an address by them, and addresses printed."""

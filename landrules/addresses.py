@@ -1,12 +1,14 @@
 """The interface: a list of calls on one new object, and the list of their answers."""
 
 from landrules.land import Land
-from landrules.refusals import NO_RULES
+from landrules.refusals import FAULT, NO_RULES, TOO_MUCH, Fault, TooMuch
 
 TAKE = 0
 COUNT = 1
 PLAIN = 2
 WAYS = 3
+WAY = 4
+PART = 5
 
 # By the call's number: how many whole numbers stand behind it. All but count have a row, too.
 WHOLE_NUMBERS = (0, 1, 0, 0, 1, 2, 1)
@@ -32,6 +34,15 @@ def answers(calls):
 
 
 def answer_call(land, call, wholes, row):
+    try:
+        return told_by(land, call, wholes, row)
+    except TooMuch:
+        return [TOO_MUCH]
+    except Fault as fault:
+        return [FAULT, fault.place]
+
+
+def told_by(land, call, wholes, row):
     if call == TAKE:
         return land.take(row)
     if land.rules is None:
@@ -42,4 +53,8 @@ def answer_call(land, call, wholes, row):
         return land.tell_plain(row)
     if call == WAYS:
         return land.tell_ways(row)
-    raise NotImplementedError("the calls way, part and print are not written yet")
+    if call == WAY:
+        return land.tell_way(wholes[0], row)
+    if call == PART:
+        return land.tell_part(wholes[0], wholes[1], row)
+    return land.tell_print(wholes[0], row)

@@ -31,9 +31,9 @@ def read_line(reader, rules):
     if head == SHAPE_HEAD:
         rules.shapes.append(reader.read_run("9a", MOST_SHAPE_SIGNS))
     elif head == SHORT_HEAD:
-        rules.add_short(read_words(reader, 2))
+        rules.add_short(reader.read_words(2, MOST_WORDS))
     elif head == DROP_HEAD:
-        rules.add_drop(read_words(reader, 1))
+        rules.add_drop(reader.read_words(1, MOST_WORDS))
     else:
         rules.forms.append(read_form(reader, rules))
     reader.demand("\n")
@@ -48,14 +48,6 @@ def possible_heads(rules):
     if len(rules.forms) < MOST_FORMS:
         heads.append(FORM_HEAD)
     return heads
-
-
-def read_words(reader, least):
-    words = [reader.read_word()]
-    while len(words) < least or (len(words) < MOST_WORDS and not reader.sees("\n")):
-        reader.demand(" ")
-        words.append(reader.read_word())
-    return words
 
 
 def read_form(reader, rules):

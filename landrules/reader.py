@@ -37,6 +37,14 @@ class Reader:
     def read_word(self):
         return self.read_run(LETTERS, MOST_LETTERS)
 
+    # Up to a line's end, which is left to be read.
+    def read_words(self, least, most):
+        words = [self.read_word()]
+        while len(words) < least or (len(words) < most and not self.sees("\n")):
+            self.demand(" ")
+            words.append(self.read_word())
+        return words
+
     # No choice may begin another one. All are followed at once, for the fault is
     # where the last of them stops being possible.
     def read_choice(self, choices):

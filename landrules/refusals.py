@@ -2,6 +2,8 @@
 
 NOT_SUCH = -1
 TOO_MUCH = -2
+NOT_HAD = -3
+NOT_THERE = -4
 NO_RULES = -5
 FAULT = -6
 TOO_MANY_WAYS = -9

@@ -26,6 +26,10 @@ class Form:
         self.pieces = []
         self.joints = []
 
+    # Each item with the part behind it; a blank, the weakest, stands behind the last.
+    def pieces_with_joints(self):
+        return list(zip(self.pieces, self.joints + [BLANK]))
+
     def all_optional(self):
         return all([item.optional for item in self.pieces])
 

@@ -27,6 +27,7 @@ NO_NAMES = set("""register mro elements open input version_info with_traceback a
     methodcaller os quit setattr super vars sys format format_map""".split())
 NO_WORDS = set("""type typing typing_extensions enum Enum IntEnum StrEnum Flag IntFlag Generic Protocol ABC ABCMeta
     namedtuple NamedTuple TypedDict TYPE_CHECKING abstractmethod""".split())
+CHANGING = set("append clear extend insert pop remove reverse setdefault update".split())
 WALKED = {"zip", "enumerate", "reversed", "range"}
 WALKERS = {"list", "tuple", "dict", "sorted", "sum", "any", "all", "enumerate", "zip", "min", "max", "reversed"}
 
@@ -53,6 +54,22 @@ def is_plain_value(node):
     if isinstance(node, ast.Tuple):
         return all(is_plain_value(value) for value in node.elts)
     return isinstance(node, ast.Constant)
+
+
+def inner_names(node):
+    """What a loop walks, also through enumerate, zip and the like."""
+    if isinstance(node, ast.Call):
+        inner = node.args + ([node.func.value] if isinstance(node.func, ast.Attribute) else [])
+        return {name for one in inner for name in inner_names(one)}
+    return {ast.unparse(node)} if isinstance(node, (ast.Name, ast.Attribute)) else set()
+
+
+def changed_names(node):
+    if isinstance(node, ast.Call) and isinstance(node.func, ast.Attribute) and node.func.attr in CHANGING:
+        return {ast.unparse(node.func.value)}
+    if isinstance(node, ast.Subscript) and isinstance(node.ctx, ast.Store):
+        return {ast.unparse(node.value)}
+    return set()
 
 
 def bound_names(tree):
@@ -110,6 +127,11 @@ class Top(unittest.TestCase):
             taken |= {alias.name for node in outside if isinstance(node, ast.ImportFrom) for alias in node.names}
             self.assertEqual([local for function in tree.body if isinstance(function, (ast.FunctionDef, ast.ClassDef))
                               for local in bound_names(function) if local in taken or local in dir(builtins)], [], name)
+
+    def test_imports_stand_at_the_top_alone(self):
+        for name, tree in trees():
+            found = [node for node in ast.walk(tree) if isinstance(node, (ast.Import, ast.ImportFrom))]
+            self.assertEqual([node for node in found if node not in tree.body], [], name)
 
     def test_imports(self):
         draws = {}
@@ -174,6 +196,37 @@ class Language(unittest.TestCase):
                 self.assertLessEqual(len(node.bases), 1)
                 for inner in node.body:
                     self.assertIsInstance(inner, (ast.FunctionDef, ast.Pass), (name, node.name))
+
+    def test_parameters_are_plain(self):
+        for name, node in nodes():
+            if isinstance(node, ast.arg):
+                self.assertIsNone(node.annotation, name)
+            if isinstance(node, ast.FunctionDef):
+                self.assertIsNone(node.returns, (name, node.name))
+                self.assertEqual(node.args.defaults, [], (name, node.name))
+            if isinstance(node, ast.FunctionDef) and node.name == "__init__":
+                self.assertEqual([inner for inner in ast.walk(node) if isinstance(inner, ast.Return)], [], name)
+            if isinstance(node, ast.Call):
+                self.assertEqual(node.keywords, [], (name, node.lineno))
+
+    def test_assignments_have_one_plain_target(self):
+        for name, node in nodes():
+            if isinstance(node, ast.Assign):
+                self.assertIsInstance(node.targets[0], (ast.Name, ast.Attribute, ast.Subscript), (name, node.lineno))
+            if isinstance(node, ast.For) and isinstance(node.target, ast.Tuple):
+                for one in node.target.elts:
+                    self.assertIsInstance(one, ast.Name, (name, node.lineno))
+
+    def test_no_sets(self):
+        for name, node in nodes():
+            if isinstance(node, ast.Name):
+                self.assertNotIn(node.id, ("set", "frozenset"), (name, node.lineno))
+
+    def test_what_a_loop_walks_is_not_changed_in_it(self):
+        for name, node in nodes():
+            if isinstance(node, ast.For):
+                changed = {one for inner in ast.walk(node) for one in changed_names(inner)}
+                self.assertEqual(inner_names(node.iter) & changed, set(), (name, node.lineno))
 
     def test_errors(self):
         own = {node.name for name, node in nodes() if isinstance(node, ast.ClassDef) and node.bases}

@@ -2,11 +2,11 @@ import random
 import re
 import unittest
 
+from landrules.addresses import answer_call
 from landrules.land import Land
-from tests.helper import numbers, taken
+from tests.helper import KINDS, changed_text, numbers, taken
 
 OWN_ITEMS = ["=a"] * 16
-KINDS = ["person", "house", "street", "number", "district", "town", "code", "box", "land"]
 
 
 def form_of(items):
@@ -252,9 +252,9 @@ class Size(unittest.TestCase):
     def test_more_than_65536_bytes(self):
         # Lists so long aren't handed in through the interface, so the object itself is asked.
         land = Land()
-        self.assertEqual(land.take([120] * 65536), [-6, 0])
-        self.assertEqual(land.take([120] * 65537), [-2])
-        self.assertEqual(land.take(numbers("drop a\n" * 513) + [120] * 70000), [-2])
+        self.assertEqual(answer_call(land, 0, [], [120] * 65536), [-6, 0])
+        self.assertEqual(answer_call(land, 0, [], [120] * 65537), [-2])
+        self.assertEqual(answer_call(land, 0, [], numbers("drop a\n" * 513) + [120] * 70000), [-2])
         self.assertIsNone(land.rules)
 
 
@@ -324,22 +324,13 @@ class AgainstThePlainWords(unittest.TestCase):
                  for number in range(chance.choice([1, 2, 3, 5, 16]))]
         return "form " + "".join(item + chance.choice([" ", ", ", " / "]) for item in items).rstrip(" ,/")
 
-    def changed(self, text, chance):
-        place = chance.randrange(len(text) + 1)
-        sort = chance.randrange(4)
-        if sort == 0:
-            return text[:place]
-        if sort == 1:
-            return text[:place] + text[place + 1:]
-        return text[:place] + chance.choice("\n ,/=?a9sdfhoptz!") + text[place + (sort == 2):]
-
     def test_random_texts(self):
         chance = random.Random(20261116)
         places = 0
         for time in range(500):
             text = "".join(self.random_line(chance) + "\n" for number in range(chance.randint(1, 3)))
             for change in range(chance.randrange(3)):
-                text = self.changed(text, chance)
+                text = changed_text(text, chance)
             expected = plain_answer(text)
             places += expected != [0]
             self.assertEqual(taken(text), expected, text)

@@ -1,14 +1,12 @@
 import itertools
 import random
-import re
 import unittest
 
 from landrules.fitting import words_fit
 from landrules.land import answer_of_ways
 from landrules.rules import Item
-from tests.helper import ask, take, ways, ways_by
-
-KINDS = ["person", "house", "street", "number", "district", "town", "code", "box", "land"]
+from tests.helper import (HEAD, ask, form_without, kept_words, plain_ways, random_form, random_words, take, ways,
+                          ways_by, written_address, written_form)
 
 
 class Cases(unittest.TestCase):
@@ -225,107 +223,26 @@ class Whole(Cases):
         self.assertEqual(answer_of_ways(9223372036854775809), [-9])
 
 
-def one_fits(name, words, shapes):
-    """The document's words on one item that has words, by patterns."""
-    text = " ".join(words)
-    if name.startswith("="):
-        return text == name[1:]
-    if name == "number":
-        return bool(re.fullmatch("[1-9][0-9]{0,4}( ?[a-z])?", text))
-    if name == "box":
-        return bool(re.fullmatch("[1-9][0-9]{0,5}", text))
-    if name == "code":
-        patterns = [shape.replace("a", "[a-z]").replace("9", "[0-9]") for shape in shapes]
-        return len(words) <= 4 and any(re.fullmatch(pattern, "".join(words)) for pattern in patterns)
-    return 1 <= len(words) <= 8
-
-
-def is_way(row, items, joints, kept, shapes):
-    start = 0
-    last = None
-    for place, length in enumerate(row):
-        if length == 0:
-            if not items[place].endswith("?"):
-                return False
-            continue
-        own = kept[start:start + length]
-        if len({line for word, line in own}) > 1:
-            return False
-        if not one_fits(items[place].rstrip("?"), [word for word, line in own], shapes):
-            return False
-        if last is not None:
-            strongest = max(joints[last:place], key=[" ", ", ", " / "].index)
-            same = kept[start - 1][1] == own[0][1]
-            if (strongest == " " and not same) or (strongest == " / " and same):
-                return False
-        last = place
-        start += length
-    return start == len(kept)
-
-
-def rows_of(length, total):
-    if length == 0:
-        return [()] if total == 0 else []
-    return [(first,) + rest for first in range(total + 1) for rest in rows_of(length - 1, total - first)]
-
-
-def plain_count(items, joints, kept, shapes):
-    return sum(is_way(row, items, joints, kept, shapes) for row in rows_of(len(items), len(kept)))
-
-
-def written_form(items, joints):
-    return "form " + "".join(item + joint for item, joint in zip(items, joints + ["\n"]))
-
-
 class AgainstAPlainCount(Cases):
-    shapes = ["9", "9a", "aa9"]
-    head = "shape 9\nshape 9a\nshape aa9\nshort a st\ndrop the\n"
-
-    def random_form(self, chance, most):
-        while True:
-            size = chance.randint(1, most)
-            names = chance.sample(KINDS + ["=a", "=a", "=1", "=b"], size)
-            items = [name + chance.choice(["", "?", "?"]) for name in names]
-            if not all(item.endswith("?") for item in items):
-                return items, [chance.choice([" ", ", ", " / "]) for number in range(size - 1)]
-
-    def random_words(self, chance):
-        words = []
-        line = 0
-        for number in range(chance.randint(0, 6)):
-            line += chance.random() < 0.3
-            words.append((chance.choice(["a", "b", "1", "1", "1a", "aa", "st", "the", "0", "123456", "20"]), line))
-        return words
-
-    def written_address(self, words):
-        text = ""
-        line = 0
-        for word, own_line in words:
-            text += ("\n" if own_line != line else " ") + word
-            line = own_line
-        return text
-
     def test_random_forms(self):
         chance = random.Random(1116)
         above = 0
         for time in range(700):
-            forms = [self.random_form(chance, 5) for number in range(chance.randint(1, 2))]
-            words = self.random_words(chance)
-            kept = [("a" if word == "st" else word, line) for word, line in words if word != "the"]
-            expected = sum(plain_count(items, joints, kept, self.shapes) for items, joints in forms)
-            rules = self.head + "".join(written_form(items, joints) for items, joints in forms)
-            self.counts(rules, self.written_address(words), expected)
+            forms = [random_form(chance, 5) for number in range(chance.randint(1, 2))]
+            words = random_words(chance)
+            expected = sum(len(plain_ways(items, joints, kept_words(words))) for items, joints in forms)
+            rules = HEAD + "".join(written_form(items, joints) for items, joints in forms)
+            self.counts(rules, written_address(words), expected)
             above += expected > 0
         self.assertGreater(above, 100)
 
     def test_dropped_and_shortened_words_say_the_same(self):
         chance = random.Random(61)
         for time in range(200):
-            items, joints = self.random_form(chance, 6)
-            words = self.random_words(chance)
-            kept = [("a" if word == "st" else word, line) for word, line in words if word != "the"]
-            rules = self.head + written_form(items, joints)
-            told = ask(take(rules), ways(self.written_address(words)), ways(self.written_address(kept)))
+            items, joints = random_form(chance, 6)
+            words = random_words(chance)
+            rules = HEAD + written_form(items, joints)
+            told = ask(take(rules), ways(written_address(words)), ways(written_address(kept_words(words))))
             self.assertEqual(told[1], told[2])
 
     def test_what_may_be_left_out(self):
@@ -333,23 +250,16 @@ class AgainstAPlainCount(Cases):
         chance = random.Random(16)
         above = 0
         for time in range(500):
-            items, joints = self.random_form(chance, 6)
+            items, joints = random_form(chance, 6)
             places = [place for place, item in enumerate(items) if item.endswith("?")]
             if not places:
                 continue
             place = chance.choice(places)
             needed = items[:place] + [items[place][:-1]] + items[place + 1:]
-            without = items[:place] + items[place + 1:]
-            around = joints[max(place - 1, 0):place + 1]
-            if 0 < place < len(items) - 1:
-                around = [max(around, key=[" ", ", ", " / "].index)]
-            else:
-                around = []
-            merged = joints[:max(place - 1, 0)] + around + joints[place + 1:]
-            address = self.written_address(self.random_words(chance))
+            address = written_address(random_words(chance))
             counts = []
-            for some_items, some_joints in ((items, joints), (needed, joints), (without, merged)):
-                counts.append(ways_by(self.head + written_form(some_items, some_joints), address)[0])
+            for some_items, some_joints in ((items, joints), (needed, joints), form_without(place, items, joints)):
+                counts.append(ways_by(HEAD + written_form(some_items, some_joints), address)[0])
             self.assertEqual(counts[0], counts[1] + counts[2], (items, joints, address))
             above += counts[2] > 0
         self.assertGreater(above, 50)
